@@ -23,6 +23,11 @@ def is_size(number):
     return 0 <= number <= FARTHEST
 
 
+# An offset counts code points, it is no place on the page: it may be as high as numbers go.
+def is_offset(number):
+    return number >= 0
+
+
 def is_flag(number):
     return 0 <= number <= 1
 

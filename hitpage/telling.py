@@ -2,7 +2,7 @@
 
 from hitpage.kept import Box, Item, Letter, Scroller
 from hitpage.limits import FULL, MOST_ITEMS, MOST_SCROLLERS, NOT_IN_RANGE
-from hitpage.limits import is_box, is_flag, is_letter_text, is_size, is_turn
+from hitpage.limits import is_box, is_flag, is_letter_text, is_offset, is_size, is_turn
 
 
 def begin(page, width, height, content_width, content_height):
@@ -32,9 +32,8 @@ def tell_item(page, node, scroller, box, can_hit, turn):
     return [page.add_item(Item(node, scroller, box, can_hit == 1, turn))]
 
 
-# An offset is a place in the node's text, so it goes as far as places do.
 def tell_letter(page, node, scroller, box, offset, backwards, text):
-    in_range = is_box(box) and is_size(offset) and is_flag(backwards) and is_letter_text(text)
+    in_range = is_box(box) and is_offset(offset) and is_flag(backwards) and is_letter_text(text)
     if not (in_range and page.has_scroller(scroller)):
         return [NOT_IN_RANGE]
     if len(page.item_list) >= MOST_ITEMS:

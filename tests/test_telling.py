@@ -9,6 +9,7 @@ from hitpage.telling import tell_item, tell_letter
 BEGIN = ("begin", 100, 100, 100, 100)
 PLACE = ((-FAR, True), (FAR, True), (-FAR - 1, False), (FAR + 1, False), (LOWEST, False), (HIGHEST, False))
 SIZE = ((0, True), (FAR, True), (-1, False), (FAR + 1, False), (LOWEST, False), (HIGHEST, False))
+OFFSET = ((0, True), (FAR, True), (FAR + 1, True), (HIGHEST - 1, True), (HIGHEST, True), (-1, False), (LOWEST, False))
 FLAG = ((0, True), (1, True), (-1, False), (2, False), (LOWEST, False), (HIGHEST, False))
 TURN = ((-1, True), (0, True), (1000, True), (-2, False), (1001, False), (LOWEST, False), (HIGHEST, False))
 ANY = ((LOWEST, True), (0, True), (HIGHEST, True))
@@ -34,7 +35,7 @@ class Ranges(unittest.TestCase):
         self.look(("item", 7, 0, 7, 7, 7, 7, 1, 7), ranges, 0)
 
     def test_letter(self):
-        ranges = (ANY, SCROLLER, PLACE, PLACE, SIZE, SIZE, SIZE, FLAG)
+        ranges = (ANY, SCROLLER, PLACE, PLACE, SIZE, SIZE, OFFSET, FLAG)
         self.look(("letter", 7, 0, 7, 7, 7, 7, 7, 1, "a"), ranges, 0)
 
 
@@ -105,9 +106,18 @@ class ItemsAndLetters(unittest.TestCase):
             [[0, 0, -5, 2, 1, 40], [0, 10, 20, 8], [0, 16, 20, 8], [-3]],
         )
 
-    def test_the_end_of_a_farthest_offset(self):
-        letter = ("letter", 1, 0, 0, 0, 6, 8, FAR, 0, "abcdefgh")
-        self.assertEqual(last(BEGIN, letter, ("caret", 1, FAR + 8)), [0, 6, 0, 8])
+    def test_the_ends_of_high_offsets(self):
+        for offset in (FAR, FAR + 1, HIGHEST - 8):
+            letter = ("letter", 1, 0, 0, 0, 6, 8, offset, 0, "abcdefgh")
+            self.assertEqual(last(BEGIN, letter, ("caret", 1, offset)), [0, 0, 0, 8], offset)
+            self.assertEqual(last(BEGIN, letter, ("caret", 1, offset + 8)), [0, 6, 0, 8], offset)
+            self.assertEqual(last(BEGIN, letter, ("choose", 1, offset, 1, offset + 8)), [1], offset)
+
+    def test_the_end_of_the_highest_offset_is_exact(self):
+        for backwards, point in ((0, 5), (1, 0)):
+            letter = ("letter", 1, 0, 0, 0, 6, 8, HIGHEST, backwards, "abcdefgh")
+            self.assertEqual(last(BEGIN, letter, ("hit", point, 0)), [0, 0, 1, point, 0, HIGHEST + 8])
+            self.assertEqual(last(BEGIN, letter, ("near", point, 0)), [0, 0, 1, HIGHEST + 8])
 
     def test_a_letter_is_open_and_without_a_turn(self):
         page = Page()
