@@ -1,1 +1,1 @@
-"""What lies under a point of a page, and what is chosen on it."""
+"""What lies under a point of a page, what is chosen on it, seen and found."""

@@ -8,7 +8,7 @@ def caret(page, node, offset):
     end = find_end(page, node, offset)
     if end is None:
         return [NONE_THERE]
-    letter = letter_at(page, end[0])
+    letter = page.letter_at(end[0])
     side = letter.first_side() if end[1] else letter.second_side()
     box = Screen(page).box_of(letter)
     return [0, box.x + side, box.y, box.height]
@@ -35,7 +35,7 @@ def chosen(page):
 def find_end(page, node, offset):
     second = None
     for k in range(len(page.letter_numbers)):
-        letter = letter_at(page, k)
+        letter = page.letter_at(k)
         if letter.node != node:
             continue
         if letter.first_end() == offset:
@@ -43,10 +43,6 @@ def find_end(page, node, offset):
         if second is None and letter.second_end() == offset:
             second = (k, False)
     return second
-
-
-def letter_at(page, k):
-    return page.item_list[page.letter_numbers[k]]
 
 
 # A first end stands before its letter, a second one behind it.

@@ -18,6 +18,9 @@ class Box:
     def bottom(self):
         return self.y + self.height
 
+    def has_size(self):
+        return self.width > 0 and self.height > 0
+
     def covers(self, x, y):
         return self.x <= x < self.right() and self.y <= y < self.bottom()
 
@@ -41,6 +44,19 @@ class Scroller:
         self.content_height = content_height
         self.scrolled_x = 0
         self.scrolled_y = 0
+
+    def go_to(self, x, y):
+        self.scrolled_x = held_within(x, self.content_width - self.box.width)
+        self.scrolled_y = held_within(y, self.content_height - self.box.height)
+
+    # Where a box of its content lies in the content of the outer one.
+    def moved_outwards(self, box):
+        return box.moved(self.box.x - self.scrolled_x, self.box.y - self.scrolled_y)
+
+
+# A content that is smaller than its box leaves less than 0 to scroll, which is as good as none.
+def held_within(scrolled, most):
+    return max(0, min(scrolled, most))
 
 
 class Item:
@@ -99,6 +115,23 @@ class Page:
 
     def has_scroller(self, number):
         return 0 <= number < len(self.scroller_list)
+
+    def has_item(self, number):
+        return 0 <= number < len(self.item_list)
+
+    # The letter that is read as the one of that place.
+    def letter_at(self, place):
+        return self.item_list[self.letter_numbers[place]]
+
+    # The scroller of that number, then the one that it lies in, and so on to the view.
+    def scrollers_outwards(self, number):
+        found = []
+        at = number
+        while at != NO_OUTER:
+            scroller = self.scroller_list[at]
+            found.append(scroller)
+            at = scroller.outer
+        return found
 
     def add_scroller(self, scroller):
         self.scroller_list.append(scroller)

@@ -10,6 +10,7 @@ MOST_ITEMS = 65536
 FARTHEST = 33554432
 HIGHEST_TURN = 1000
 LONGEST_LETTER = 8
+LONGEST_SEARCH = 256
 LAST_CODE_POINT = 1114111
 FIRST_SURROGATE = 55296
 LAST_SURROGATE = 57343
@@ -43,7 +44,15 @@ def is_code_point(number):
 
 
 def is_letter_text(text):
-    return 1 <= len(text) <= LONGEST_LETTER and all([is_code_point(number) for number in text])
+    return is_text(text, LONGEST_LETTER)
+
+
+def is_search_text(text):
+    return is_text(text, LONGEST_SEARCH)
+
+
+def is_text(text, longest):
+    return 1 <= len(text) <= longest and all([is_code_point(number) for number in text])
 
 
 def is_box(box):

@@ -1,9 +1,13 @@
 """The calls on one page, handed in as one list of whole numbers, and what is answered."""
 
 from hitpage.choosing import caret, choose, chosen
+from hitpage.finding import find_text
 from hitpage.kept import Box, Page
+from hitpage.marking import chosen_text, rectangles
 from hitpage.pointing import hit, near
+from hitpage.scrolling import scroll, scrolled, seen, show
 from hitpage.telling import begin, tell_item, tell_letter, tell_scroller
+from hitpage.turning import set_focus, turn_focus
 
 
 def call_begin(page, numbers, text):
@@ -42,6 +46,42 @@ def call_chosen(page, numbers, text):
     return chosen(page)
 
 
+def call_rectangles(page, numbers, text):
+    return rectangles(page)
+
+
+def call_text(page, numbers, text):
+    return chosen_text(page)
+
+
+def call_scroll(page, numbers, text):
+    return scroll(page, numbers[0], numbers[1], numbers[2])
+
+
+def call_scrolled(page, numbers, text):
+    return scrolled(page, numbers[0])
+
+
+def call_show(page, numbers, text):
+    return show(page, numbers[0])
+
+
+def call_seen(page, numbers, text):
+    return seen(page, numbers[0])
+
+
+def call_find(page, numbers, text):
+    return find_text(page, text, numbers[0], numbers[1])
+
+
+def call_turn(page, numbers, text):
+    return turn_focus(page, numbers[0])
+
+
+def call_focus(page, numbers, text):
+    return set_focus(page, numbers[0])
+
+
 def box_from(numbers, at):
     return Box(numbers[at], numbers[at + 1], numbers[at + 2], numbers[at + 3])
 
@@ -57,6 +97,15 @@ CALLS = {
     7: (2, False, call_caret),
     8: (4, False, call_choose),
     9: (0, False, call_chosen),
+    10: (0, False, call_rectangles),
+    11: (0, False, call_text),
+    12: (3, False, call_scroll),
+    13: (1, False, call_scrolled),
+    14: (1, False, call_show),
+    15: (1, False, call_seen),
+    16: (2, True, call_find),
+    17: (1, False, call_turn),
+    18: (1, False, call_focus),
 }
 
 

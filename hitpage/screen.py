@@ -30,5 +30,13 @@ class Screen:
     def box_of(self, item):
         return self.moved_onto(item.scroller, item.box)
 
+    # The part of the item's box that is shown; without size, if none is.
+    def seen_part(self, item):
+        return self.box_of(item).shared_with(self.shown_list[item.scroller])
+
+    def shows_whole(self, item):
+        part = self.seen_part(item)
+        return part.has_size() and part.width == item.box.width and part.height == item.box.height
+
     def shows(self, scroller_number, x, y):
         return self.shown_list[scroller_number].covers(x, y)

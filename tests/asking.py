@@ -12,6 +12,15 @@ CALLS = {
     "caret": 7,
     "choose": 8,
     "chosen": 9,
+    "rectangles": 10,
+    "text": 11,
+    "scroll": 12,
+    "scrolled": 13,
+    "show": 14,
+    "seen": 15,
+    "find": 16,
+    "turn": 17,
+    "focus": 18,
 }
 
 FAR = 33554432

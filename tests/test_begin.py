@@ -52,6 +52,70 @@ class Begin(unittest.TestCase):
             [[0], [0, 0], [-3], [-3], [-3], [-8], [1], [0], [0, 0, 1, 0, 0], [-3]],
         )
 
+    def test_again_forgets_how_far_the_view_was_scrolled(self):
+        calls = [("begin", 10, 10, 90, 90), ("scroll", 0, 7, 8), ("begin", 10, 10, 90, 90), ("scrolled", 0)]
+        self.assertEqual(last(*calls), [0, 0, 0])
+        item = ("item", 1, 0, 0, 0, 5, 5, 1, -1)
+        self.assertEqual(last(*calls, item, ("hit", 1, 2)), [0, 0, 1, 1, 2])
+        self.assertEqual(last(*calls, item, ("seen", 0)), [0, 0, 0, 5, 5])
+
+    def test_again_takes_the_new_sizes_for_scrolling(self):
+        calls = [("begin", 10, 10, 90, 90), ("begin", 20, 30, 25, 37), ("scroll", 0, 50, 50)]
+        self.assertEqual(last(*calls), [0, 5, 7])
+
+    def test_again_forgets_the_scrollers(self):
+        calls = [
+            ("begin", 10, 10, 90, 90),
+            ("scroller", 0, 0, 0, 5, 5, 50, 50),
+            ("scroll", 1, 9, 9),
+            ("begin", 10, 10, 90, 90),
+            ("scrolled", 1),
+            ("scroll", 1, 1, 1),
+            ("scroller", 0, 0, 0, 5, 5, 50, 50),
+            ("scrolled", 1),
+        ]
+        self.assertEqual(ask(*calls)[4:], [[-8], [-8], [1], [0, 0, 0]])
+
+    def test_again_forgets_the_focus(self):
+        items = [("item", node, 0, 0, 0, 5, 5, 1, 0) for node in (6, 7, 8)]
+        begin_again = ("begin", 10, 10, 90, 90)
+        for set_before in (("focus", 1), ("turn", 0)):
+            calls = [begin_again, *items, set_before, begin_again, ("turn", 0), *items]
+            self.assertEqual(last(*calls, ("turn", 0)), [0, 0, 6], set_before)
+            self.assertEqual(last(*calls, ("turn", 1)), [0, 2, 8], set_before)
+            self.assertEqual(ask(*calls)[6], [-3], set_before)
+
+    def test_again_forgets_the_choice_and_where_it_was(self):
+        letters = [("letter", 1, 0, 0, 0, 5, 5, offset, 0, "a") for offset in (0, 1, 2)]
+        begin_again = ("begin", 10, 10, 90, 90)
+        for set_before in (("choose", 1, 1, 1, 2), ("choose", 1, 2, 1, 2), ("find", 0, 0, "aa")):
+            calls = [begin_again, *letters, set_before, begin_again, *letters]
+            asked = [("chosen",), ("text",), ("rectangles",), ("find", 0, 0, "a"), ("chosen",)]
+            self.assertEqual(ask(*calls, *asked)[-5:], [[0, 0], [0], [0], [1], [1, 0]], set_before)
+            self.assertEqual(ask(*calls, ("find", 0, 1, "a"), ("chosen",))[-2:], [[1], [1, 2]], set_before)
+
+    def test_again_forgets_the_items(self):
+        item = ("item", 1, 0, 0, 0, 5, 5, 1, 0)
+        begin_again = ("begin", 10, 10, 90, 90)
+        for asked, answer in ((("show", 0), -8), (("seen", 0), -8), (("focus", 0), -8), (("turn", 0), -3)):
+            self.assertEqual(last(begin_again, item, begin_again, asked), [answer], asked)
+
+    def test_a_refused_one_forgets_nothing(self):
+        calls = [
+            ("begin", 10, 10, 90, 90),
+            ("item", 6, 0, 0, 0, 5, 5, 1, 0),
+            ("item", 7, 0, 0, 0, 5, 5, 1, 0),
+            ("letter", 1, 0, 0, 0, 5, 5, 0, 0, "a"),
+            ("find", 0, 0, "a"),
+            ("scroll", 0, 3, 4),
+            ("focus", 0),
+            ("begin", 10, 10, 90, FAR + 1),
+            ("scrolled", 0),
+            ("chosen",),
+            ("turn", 0),
+        ]
+        self.assertEqual(ask(*calls)[7:], [[-8], [0, 3, 4], [1, 2], [0, 1, 7]])
+
     def test_the_view_begins_unscrolled_and_without_a_focus(self):
         page = Page()
         page.scroller_list[0].scrolled_x = 3
@@ -95,12 +159,22 @@ class FirstBeginRefused(unittest.TestCase):
             ("caret", 2, 1),
             ("choose", 2, 0, 2, 1),
             ("chosen",),
+            ("rectangles",),
+            ("text",),
+            ("scroll", 0, 5, 5),
+            ("scrolled", 0),
+            ("show", 0),
+            ("seen", 0),
+            ("find", 0, 0, "a"),
+            ("turn", 0),
+            ("focus", -1),
         ]
         refused = ask(("begin", -1, 5, 5, 5), *rest)
         self.assertEqual(refused[0], [-8])
         self.assertEqual(
             refused[1:],
-            [[0, 0], [-3], [1], [0], [1], [-3], [-3], [0, 1, 2, 0], [0, 8, 4, 6], [1], [1, 1]],
+            [[0, 0], [-3], [1], [0], [1], [-3], [-3], [0, 1, 2, 0], [0, 8, 4, 6], [1], [1, 1]]
+            + [[1, 3, 4, 5, 6], [1, 97], [0, 0, 0], [0, 0, 0], [0, 0], [-3], [2], [-3], [0]],
         )
         self.assertEqual(refused[1:], ask(("begin", 0, 0, 0, 0), *rest)[1:])
 
